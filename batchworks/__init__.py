@@ -1,0 +1,1 @@
+"""A works of batches: its recipes, its works' text and its days."""

@@ -1,0 +1,66 @@
+"""What the tests share: texts as bytes, and calls that watch what they are handed."""
+
+from batchworks.works import check, works
+
+# A book that says nothing but what every test needs: four steps, a condition, two recipes.
+BOOK = """recipe brew
+  do heat takes 5 to 9 do cool
+  again do stir until smooth end
+end
+recipe rinse do flush end
+"""
+
+# A works' text that suits it, of nine lines.
+PLANT = """stuff malt
+stuff wort
+vessel tun 500
+vessel vat 1000
+unit worker 3
+claim brew worker 2
+take heat worker 2
+give heat worker 2
+charge heat tun malt 10
+"""
+
+
+def as_bytes(text):
+    return list(text) if isinstance(text, list) else list(text.encode("latin-1"))
+
+
+def answer(function, *texts):
+    handed = [as_bytes(text) for text in texts]
+    before = [list(text) for text in handed]
+    first = function(*handed)
+    second = function(*handed)
+    assert handed == before, "what was handed in is changed"
+    assert first == second, "a second call answers otherwise"
+    assert isinstance(first, list) and all([type(number) is int for number in first])
+    return first
+
+
+def works_of(recipes=BOOK, plant=PLANT):
+    return answer(works, recipes, plant)
+
+
+def check_of(day, recipes=BOOK, plant=PLANT):
+    return answer(check, recipes, plant, day)
+
+
+def wrong_works(line, kind):
+    return [-1000 - (100 * line + kind)]
+
+
+def wrong_day(line, kind):
+    return [-500000 - (100 * line + kind)]
+
+
+def named(prefix, how_many):
+    return [f"{prefix}{k}" for k in range(how_many)]
+
+
+def steps(how_many, prefix="s"):
+    return " ".join([f"do {name}" for name in named(prefix, how_many)])
+
+
+def told(lines):
+    return "".join([line + "\n" for line in lines])

@@ -1,0 +1,131 @@
+"""The calls: texts as bytes, the order of the refusals, and that nothing is kept or changed."""
+
+import unittest
+
+from batchworks.works import check, works
+from helper import BOOK, PLANT, answer, as_bytes, check_of, works_of, wrong_day, wrong_works
+
+DAY = "0 lot a malt 30 900\n2 batch c brew\n7 say c smooth no\n7 till\n"
+NO_BYTES = [[-1], [256], [-9223372036854775808], [9223372036854775807], [48, 1000], [10, -2]]
+
+
+class Texts(unittest.TestCase):
+
+    def test_numbers_that_are_no_bytes(self):
+        for other in NO_BYTES:
+            self.assertEqual(works_of(as_bytes(BOOK) + other), [-1], other)
+            self.assertEqual(works_of(plant=as_bytes(PLANT) + other), [-1], other)
+            self.assertEqual(check_of(DAY, recipes=other + as_bytes(BOOK)), [-1], other)
+            self.assertEqual(check_of(DAY, plant=other + as_bytes(PLANT)), [-1], other)
+            self.assertEqual(check_of(as_bytes(DAY) + other), [-1], other)
+
+    def test_the_least_and_the_greatest_byte(self):
+        for byte in [0, 255]:
+            self.assertEqual(works_of([byte]), wrong_works(0, 8))
+            self.assertEqual(works_of(plant=[byte]), wrong_works(1, 1))
+            self.assertEqual(check_of([byte]), wrong_day(1, 1))
+
+    def test_texts_have_at_most_6000_bytes(self):
+        for fill in [" ", "\n"]:
+            for length, right in [(5999, True), (6000, True), (6001, False), (16000, False)]:
+                recipes = BOOK + fill * (length - len(BOOK))
+                plant = PLANT + fill * (length - len(PLANT))
+                day = DAY + fill * (length - len(DAY))
+                self.assertEqual(works_of(recipes), [2, 2, 2, 1, 1] if right else [-1])
+                self.assertEqual(works_of(plant=plant), [2, 2, 2, 1, 1] if right else [-1])
+                self.assertEqual(check_of(day), [4, 1, 1] if right else [-1])
+                self.assertEqual(check_of(DAY, recipes=recipes), [4, 1, 1] if right else [-1])
+                self.assertEqual(check_of(DAY, plant=plant), [4, 1, 1] if right else [-1])
+
+    def test_each_text_has_its_own_6000_bytes(self):
+        recipes = BOOK + " " * (6000 - len(BOOK))
+        plant = PLANT + " " * (6000 - len(PLANT))
+        day = DAY + " " * (6000 - len(DAY))
+        self.assertEqual(check_of(day, recipes, plant), [4, 1, 1])
+
+    # Each byte alone, as a name behind a right line: only small letters make one.
+    def test_every_byte_as_a_name(self):
+        for byte in range(256):
+            answered = works_of(plant=as_bytes("stuff ") + [byte])
+            right = 97 <= byte <= 122
+            self.assertEqual(answered, [2, 1, 0, 0, 0] if right else wrong_works(1, 1), byte)
+
+    def test_every_byte_within_a_name(self):
+        for byte in range(256):
+            answered = works_of(plant=as_bytes("stuff a") + [byte] + as_bytes("b"))
+            right = 97 <= byte <= 122 or 48 <= byte <= 57
+            self.assertEqual(answered, [2, 1, 0, 0, 0] if right else wrong_works(1 if byte != 10 else 2, 1), byte)
+
+    def test_every_byte_as_a_number(self):
+        for byte in range(256):
+            answered = check_of([byte] + as_bytes(" till"))
+            right = 48 <= byte <= 57
+            self.assertEqual(answered, [1, 0, 0] if right else wrong_day(1 if byte != 10 else 2, 1), byte)
+
+
+class Refusals(unittest.TestCase):
+
+    def test_no_bytes_go_before_all(self):
+        self.assertEqual(works_of("", [-1]), [-1])
+        self.assertEqual(works_of("recipe", "bad" + " " * 6000), [-1])
+        self.assertEqual(works_of([300], "bad"), [-1])
+        self.assertEqual(check_of([256], "", ""), [-1])
+        self.assertEqual(check_of([256], BOOK, "bad"), [-1])
+        self.assertEqual(check_of(" " * 6001, BOOK, "bad"), [-1])
+        self.assertEqual(check_of("bad", BOOK, [-1]), [-1])
+        self.assertEqual(check_of("bad", " " * 6001, "bad"), [-1])
+
+    def test_the_works_goes_before_the_day(self):
+        self.assertEqual(check_of("bad", "recipe", PLANT), wrong_works(0, 8))
+        self.assertEqual(check_of("bad", BOOK, "stuff a\nbad"), wrong_works(2, 1))
+        self.assertEqual(check_of("bad", "recipe a either or end end", ""), wrong_works(0, 6))
+        self.assertEqual(check_of("bad", "recipe a do x end", "unit u 1\nclaim a u 2"), wrong_works(0, 7))
+        self.assertEqual(check_of("bad"), wrong_day(1, 1))
+
+    def test_check_refuses_what_works_refuses(self):
+        for recipes, plant in [("", ""), ("recipe a either or end end", ""), (BOOK, "bad"), (BOOK, "stuff a\nstuff a"),
+                               (BOOK, "\nunit u 1\ntake heat v 1"), (BOOK, "unit u 1\ntake heat u 1"),
+                               (BOOK, "vessel v 1\npour heat v v 1"), (BOOK, [999])]:
+            self.assertEqual(check_of(DAY, recipes, plant), works_of(recipes, plant))
+
+    def test_the_numbers_of_refusals(self):
+        self.assertEqual(works_of("", ""), [-1008])
+        self.assertEqual(works_of("recipe a either or end end", ""), [-1006])
+        self.assertEqual(works_of("recipe a do x end", "unit u 1\nclaim a u 2"), [-1007])
+        self.assertEqual(works_of(BOOK, "bad"), [-1101])
+        self.assertEqual(works_of(BOOK, "\n" * 11 + "ship heat v"), [-2203])
+        self.assertEqual(check_of("bad"), [-500101])
+        self.assertEqual(check_of("5 till\n" * 12 + "4 till"), [-501304])
+
+
+class NothingKept(unittest.TestCase):
+
+    def test_calls_behind_one_another_stand_for_themselves(self):
+        calls = [(works, BOOK, PLANT), (check, BOOK, PLANT, DAY), (works, "", PLANT), (check, BOOK, PLANT, "bad"),
+                 (works, "recipe a do x end", ""), (check, "recipe a do x end", "", DAY),
+                 (works, BOOK, PLANT + "bad"), (check, BOOK, PLANT, "9 till\n8 till"), (works, [256], ""),
+                 (check, "recipe z if c then else end end", "stuff q", "0 lot q q 1 1\n0 batch b z\n0 say b c no")]
+        first = [answer(*call) for call in calls]
+        self.assertEqual(first, [[2, 2, 2, 1, 1], [4, 1, 1], [-1008], [-500101], [1, 0, 0, 0, 0], [-500103],
+                                 [-2001], [-500204], [-1], [3, 1, 1]])
+        for turn in range(3):
+            calls = calls[1:] + calls[:1]
+            first = first[1:] + first[:1]
+            self.assertEqual([answer(*call) for call in calls], first)
+
+    def test_an_answer_that_is_changed_changes_no_other(self):
+        handed = as_bytes(BOOK), as_bytes(PLANT)
+        first = works(*handed)
+        first.append(7)
+        self.assertEqual(works(*handed), [2, 2, 2, 1, 1])
+
+    def test_one_list_may_be_handed_in_for_several_texts(self):
+        text = as_bytes("stuff a")
+        self.assertEqual(works(text, text), wrong_works(0, 8))
+        empty = []
+        self.assertEqual(check(as_bytes(BOOK), empty, empty), [0, 0, 0])
+        self.assertEqual(empty, [])
+
+
+if __name__ == "__main__":
+    unittest.main()
