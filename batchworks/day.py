@@ -41,23 +41,14 @@ def is_formed(words):
     return words[1] != "say" or words[4] in ("yes", "no")
 
 
-# These tell the first kind that a well formed line has by its names, or 0.
-def kind_of_lot(day, name, stuff):
-    if name in day.lots:
+# These tell the first kind that a well formed line has by its names, or 0. Of a new lot or batch the
+# stuff or recipe is known if it's told.
+def kind_of_new(told, most, name, is_known):
+    if name in told:
         return 2
-    if stuff not in day.plant.told["stuff"]:
+    if not is_known:
         return 3
-    if len(day.lots) == MOST_LOTS:
-        return 5
-    return 0
-
-
-def kind_of_batch(day, name, recipe):
-    if name in day.batches:
-        return 2
-    if recipe not in day.plant.told["recipe"]:
-        return 3
-    if len(day.batches) == MOST_BATCHES:
+    if len(told) == most:
         return 5
     return 0
 
@@ -70,9 +61,9 @@ def kind_of_say(day, batch, condition):
 
 def kind_of_names(day, words):
     if words[1] == "lot":
-        return kind_of_lot(day, words[2], words[3])
+        return kind_of_new(day.lots, MOST_LOTS, words[2], words[3] in day.plant.told["stuff"])
     if words[1] == "batch":
-        return kind_of_batch(day, words[2], words[3])
+        return kind_of_new(day.batches, MOST_BATCHES, words[2], words[3] in day.plant.told["recipe"])
     if words[1] == "say":
         return kind_of_say(day, words[2], words[3])
     return 0
