@@ -44,7 +44,8 @@ class Plant:
 
     def __init__(self, book):
         self.book = book
-        self.told = {"recipe": book.recipes, "step": book.steps, "stuff": {}, "vessel": {}, "unit": {}}
+        self.told = {"recipe": book.recipes, "step": book.steps, "condition": book.conditions,
+                     "stuff": {}, "vessel": {}, "unit": {}}
         self.sizes = {"stuff": [], "vessel": [], "unit": []}
         self.pairs = {"claim": {}, "take": {}, "give": {}}
         self.doings = []
@@ -59,6 +60,10 @@ class Plant:
 
     def numbers_of(self, word, names):
         return tuple([self.told[what][name] for what, name in zip(NAMES[word], names)])
+
+    # Names stand in the order of their numbers.
+    def name_of(self, what, number):
+        return list(self.told[what])[number]
 
     def are_told(self, word, names):
         return all([name in self.told[what] for what, name in zip(NAMES[word], names)])

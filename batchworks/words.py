@@ -3,6 +3,7 @@
 from batchworks.refusals import NoText
 
 MOST_BYTES = 6000
+MOST_RECORD_BYTES = 60000
 MOST_SIGNS = 12
 MOST_DIGITS = 7
 LETTERS = "abcdefghijklmnopqrstuvwxyz"
@@ -25,8 +26,8 @@ def sign_of(byte):
     return OTHER
 
 
-def text_of(numbers):
-    if len(numbers) > MOST_BYTES:
+def text_of(numbers, most):
+    if len(numbers) > most:
         raise NoText()
     signs = []
     for number in numbers:
@@ -34,6 +35,16 @@ def text_of(numbers):
             raise NoText()
         signs.append(sign_of(number))
     return "".join(signs)
+
+
+# A text as it is answered: its length, then its bytes.
+def answer_of(lines):
+    signs = "".join([line + "\n" for line in lines])
+    return [len(signs)] + [ord(sign) for sign in signs]
+
+
+def line_of(words):
+    return " ".join([str(word) for word in words])
 
 
 # The lines that have words, each with its number.

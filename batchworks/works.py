@@ -1,27 +1,56 @@
 """The calls: texts are handed in as bytes, and whole numbers are given back."""
 
+from batchworks.carrying import Run
 from batchworks.day import read_day
+from batchworks.judging import judgement
 from batchworks.plant import read_plant
 from batchworks.refusals import Refusal
-from batchworks.words import text_of
+from batchworks.words import MOST_BYTES, MOST_RECORD_BYTES, answer_of, text_of
+
+
+# All texts are looked at as bytes before any of them is read.
+def plant_of(r, w):
+    recipes_text = text_of(r, MOST_BYTES)
+    works_text = text_of(w, MOST_BYTES)
+    return read_plant(recipes_text, works_text)
+
+
+def day_of(r, w, d):
+    day_text = text_of(d, MOST_BYTES)
+    return read_day(plant_of(r, w), day_text)
 
 
 def works(r, w):
     try:
-        plant = read_plant(text_of(r), text_of(w))
+        plant = plant_of(r, w)
     except Refusal as e:
         return [e.number]
     told = plant.told
     return [len(told["recipe"]), len(told["stuff"]), len(told["vessel"]), len(told["unit"]), len(plant.doings)]
 
 
-# All texts are looked at as bytes before any of them is read.
 def check(r, w, d):
     try:
-        recipes_text = text_of(r)
-        works_text = text_of(w)
-        day_text = text_of(d)
-        day = read_day(read_plant(recipes_text, works_text), day_text)
+        day = day_of(r, w, d)
     except Refusal as e:
         return [e.number]
     return [len(day.orders), len(day.lots), len(day.batches)]
+
+
+def record(r, w, d):
+    try:
+        day = day_of(r, w, d)
+    except Refusal as e:
+        return [e.number]
+    run = Run(day, None)
+    run.carry_out()
+    return answer_of(run.lines)
+
+
+def judge(r, w, d, x):
+    try:
+        text = text_of(x, MOST_RECORD_BYTES)
+        day = day_of(r, w, d)
+    except Refusal as e:
+        return [e.number]
+    return judgement(day, text)

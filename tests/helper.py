@@ -1,6 +1,6 @@
 """What the tests share: texts as bytes, and calls that watch what they are handed."""
 
-from batchworks.works import check, works
+from batchworks.works import check, judge, record, works
 
 # A book that says nothing but what every test needs: four steps, a condition, two recipes.
 BOOK = """recipe brew
@@ -44,6 +44,23 @@ def works_of(recipes=BOOK, plant=PLANT):
 
 def check_of(day, recipes=BOOK, plant=PLANT):
     return answer(check, recipes, plant, day)
+
+
+def text_in(answered):
+    """The text that is answered: its length, then its bytes."""
+    assert answered[0] == len(answered) - 1, "a text's length is another"
+    return bytes(answered[1:]).decode("ascii")
+
+
+def record_of(day, recipes=BOOK, plant=PLANT):
+    """The lines of the day's record, of a day that isn't refused."""
+    text = text_in(answer(record, recipes, plant, day))
+    assert text == "" or text.endswith("\n")
+    return text.split("\n")[:-1]
+
+
+def judge_of(judged, day, recipes=BOOK, plant=PLANT):
+    return answer(judge, recipes, plant, day, judged)
 
 
 def wrong_works(line, kind):

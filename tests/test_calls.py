@@ -2,10 +2,12 @@
 
 import unittest
 
-from batchworks.works import check, works
-from helper import BOOK, PLANT, answer, as_bytes, check_of, works_of, wrong_day, wrong_works
+from batchworks.works import check, judge, record, works
+from helper import (BOOK, PLANT, answer, as_bytes, check_of, judge_of, record_of, told, works_of, wrong_day,
+                    wrong_works)
 
 DAY = "0 lot a malt 30 900\n2 batch c brew\n7 say c smooth no\n7 till\n"
+RECORD = told(record_of(DAY))
 NO_BYTES = [[-1], [256], [-9223372036854775808], [9223372036854775807], [48, 1000], [10, -2]]
 
 
@@ -98,16 +100,79 @@ class Refusals(unittest.TestCase):
         self.assertEqual(check_of("5 till\n" * 12 + "4 till"), [-501304])
 
 
+# Recipes, works' texts and days that are refused, each with its refusal.
+WRONG = [("", PLANT, DAY, [-1008]), ("recipe", PLANT, DAY, [-1008]), (BOOK + "x", PLANT, DAY, [-1008]),
+         ("recipe a" + " do x" * 31 + " end", "", DAY, [-1008]), (BOOK, PLANT + "bad", DAY, [-2001]),
+         (BOOK, PLANT + "stuff malt", DAY, [-2002]), (BOOK, PLANT + "ship x tun", DAY, [-2003]),
+         (BOOK, PLANT + "pour heat tun tun 1", DAY, [-2004]),
+         (BOOK, told([f"unit u{k} 1" for k in range(7)]), DAY, [-1705]),
+         ("recipe a either or end end", "", DAY, [-1006]), ("recipe a do x end", "unit u 1\nclaim a u 2", DAY, [-1007]),
+         ("recipe a do x end", "unit u 1\nclaim a u 1\ntake x u 1", DAY, [-1007]),
+         (BOOK, PLANT, "bad", [-500101]), (BOOK, PLANT, DAY + "0 till 0", [-500501]),
+         (BOOK, PLANT, DAY + "7 lot a malt 1 1", [-500502]), (BOOK, PLANT, DAY + "7 batch c brew", [-500502]),
+         (BOOK, PLANT, DAY + "7 say d smooth no", [-500503]), (BOOK, PLANT, DAY + "6 till", [-500504]),
+         (BOOK, PLANT, told(["0 till"] * 121), [-512105]),
+         (BOOK, PLANT, told([f"0 batch b{k} brew" for k in range(21)]), [-502105])]
+
+
+class RecordsAndJudges(unittest.TestCase):
+
+    def test_what_check_refuses_is_refused(self):
+        for recipes, plant, day, refusal in WRONG:
+            self.assertEqual(answer(check, recipes, plant, day), refusal, refusal)
+            self.assertEqual(answer(record, recipes, plant, day), refusal)
+            for judged in [RECORD, "", "bad"]:
+                self.assertEqual(answer(judge, recipes, plant, day, judged), refusal)
+
+    def test_no_bytes_go_before_all(self):
+        for other in NO_BYTES + [[32] * 6001, [10] * 16000]:
+            for recipes, plant, day in [(other, "bad", "bad"), ("bad", other, "bad"), ("bad", "bad", other),
+                                        (other, PLANT, DAY), (BOOK, other, DAY), (BOOK, PLANT, other)]:
+                self.assertEqual(answer(record, recipes, plant, day), [-1])
+                self.assertEqual(answer(judge, recipes, plant, day, RECORD), [-1])
+                self.assertEqual(answer(judge, recipes, plant, day, [300]), [-1])
+
+    def test_a_judged_record_that_is_no_text_goes_before_all(self):
+        for other in [[-1], [256], [-65535], [65535], [48, 1000], [10] * 60001]:
+            self.assertEqual(judge_of(other, DAY), [-1])
+            for recipes, plant, day, refusal in WRONG:
+                self.assertEqual(answer(judge, recipes, plant, day, other), [-1])
+
+    def test_the_recipes_go_before_the_works_and_the_works_before_the_day(self):
+        for function, more in [(record, []), (judge, ["bad"])]:
+            self.assertEqual(answer(function, "recipe", "bad", "bad", *more), [-1008])
+            self.assertEqual(answer(function, BOOK, "stuff a\nbad", "bad", *more), [-1201])
+            self.assertEqual(answer(function, "recipe a either or end end", "bad", "bad", *more), [-1101])
+            self.assertEqual(answer(function, "recipe a either or end end", "", "bad", *more), [-1006])
+            self.assertEqual(answer(function, BOOK, PLANT, "\nbad", *more), [-500201])
+
+    def test_texts_of_6000_bytes(self):
+        for fill in [" ", "\n"]:
+            texts = [text + fill * (6000 - len(text)) for text in [BOOK, PLANT, DAY]]
+            self.assertEqual(answer(record, *texts), [len(RECORD)] + as_bytes(RECORD))
+            self.assertEqual(answer(judge, *texts, RECORD), [1])
+
+    def test_the_text_that_is_answered(self):
+        self.assertEqual(answer(record, BOOK, PLANT, ""), [0])
+        self.assertEqual(answer(record, BOOK, PLANT, "7 till"), [7, 55, 32, 116, 105, 108, 108, 10])
+        self.assertEqual(answer(record, BOOK, PLANT, " 7  till \n\n7 till"), [14] + as_bytes("7 till\n") * 2)
+
+
 class NothingKept(unittest.TestCase):
 
     def test_calls_behind_one_another_stand_for_themselves(self):
+        other = told(record_of("0 lot a malt 9 9\n1 batch c brew\n2 batch d brew\n99 till"))
         calls = [(works, BOOK, PLANT), (check, BOOK, PLANT, DAY), (works, "", PLANT), (check, BOOK, PLANT, "bad"),
                  (works, "recipe a do x end", ""), (check, "recipe a do x end", "", DAY),
                  (works, BOOK, PLANT + "bad"), (check, BOOK, PLANT, "9 till\n8 till"), (works, [256], ""),
-                 (check, "recipe z if c then else end end", "stuff q", "0 lot q q 1 1\n0 batch b z\n0 say b c no")]
+                 (check, "recipe z if c then else end end", "stuff q", "0 lot q q 1 1\n0 batch b z\n0 say b c no"),
+                 (record, BOOK, PLANT, DAY), (judge, BOOK, PLANT, DAY, RECORD), (judge, BOOK, PLANT, DAY, other),
+                 (record, BOOK, PLANT, "bad"), (judge, BOOK, PLANT, DAY, [-5]), (record, BOOK, PLANT, "3 till"),
+                 (judge, BOOK, PLANT, DAY, RECORD.replace("order c", "order d"))]
         first = [answer(*call) for call in calls]
         self.assertEqual(first, [[2, 2, 2, 1, 1], [4, 1, 1], [-1008], [-500101], [1, 0, 0, 0, 0], [-500103],
-                                 [-2001], [-500204], [-1], [3, 1, 1]])
+                                 [-2001], [-500204], [-1], [3, 1, 1], [len(RECORD)] + as_bytes(RECORD), [1], [0, 0],
+                                 [-500101], [-1], [7] + as_bytes("3 till\n"), [0, 2]])
         for turn in range(3):
             calls = calls[1:] + calls[:1]
             first = first[1:] + first[:1]

@@ -150,6 +150,7 @@ class Language(unittest.TestCase):
                     package, _, module = node.module.partition(".")
                     self.assertEqual((package, node.level), ("batchworks", 0), name)
                     tops = {getattr(part, "name", None) for part in self.trees[module].body}
+                    tops |= {part.targets[0].id for part in self.trees[module].body if isinstance(part, ast.Assign)}
                     self.assertTrue({alias.name for alias in node.names} <= tops, name)
                     self.assertTrue(all(alias.asname is None for alias in node.names), name)
                     drawn[name].add(module)
