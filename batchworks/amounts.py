@@ -23,5 +23,11 @@ def rest_of(share):
     return (share[1] - share[0], share[1])
 
 
+# As it is told: a number, or two with a sign between where it isn't whole.
+def amount_text(amount):
+    top, bottom = amount
+    return f"{top}" if bottom == 1 else f"{top}/{bottom}"
+
+
 def is_bounded(amount):
     return amount[0] <= MOST_IN_A_TERM and amount[1] <= MOST_IN_A_TERM

@@ -19,7 +19,7 @@ class WrongOrder(Exception):
 
 
 # Begun steps stand in the order of their beginnings, each as its move's number and the minute at
-# which its time is over.
+# which its time is over. It's counted how many steps it did and conditions it asked, both together.
 class Batch:
 
     def __init__(self, name, moves, claimed, held):
@@ -30,6 +30,7 @@ class Batch:
         self.marked = [0]
         self.begun = []
         self.answers = {}
+        self.deeds = 0
 
     # The moves of these kinds that can be, each with its number.
     def open_moves(self, kinds):
@@ -67,6 +68,7 @@ class Run:
         self.free = tuple(self.plant.sizes["unit"])
         self.now = 0
         self.under_way = []
+        self.finished = []
         self.lines = []
 
     def carry_out(self):
@@ -150,6 +152,7 @@ class Run:
                 batch.held = lessened(batch.held, given)
                 batch.begun = [other for other in batch.begun if other[0] != number]
                 batch.mark(batch.moves[number])
+                batch.deeds += 1
                 self.write(["end", batch.name, self.plant.name_of("step", step)])
                 self.lines.extend(store.lines)
                 return True
@@ -167,6 +170,7 @@ class Run:
             if batch.answers.get(move.number) == move.kind:
                 batch.answers.pop(move.number)
                 batch.make(move)
+                batch.deeds += 1
                 self.write(["ask", batch.name, self.plant.name_of("condition", move.number), move.kind])
                 return True
         return False
@@ -220,5 +224,12 @@ class Run:
         if not batch.is_at_its_end():
             return False
         self.under_way = [other for other in self.under_way if other.name != batch.name]
+        self.finished.append(batch)
         self.write(["done", batch.name])
         return True
+
+
+def carried_out(day):
+    run = Run(day, None)
+    run.carry_out()
+    return run

@@ -41,5 +41,14 @@ def turned(mixture, first, second, share):
     return behind
 
 
+# Of all stuffs together.
+def amount_of_lot(mixture, lot):
+    amount = (0, 1)
+    for key, part in mixture.items():
+        if key[0] == lot:
+            amount = plus(amount, part)
+    return amount
+
+
 def is_mixture_bounded(mixture):
     return all([is_bounded(amount) for amount in mixture.values()])

@@ -32,3 +32,10 @@ class WrongDay(Refusal):
 
     def __init__(self, line, kind):
         Refusal.__init__(self, -500000 - (100 * line + kind))
+
+
+# A recall asks for a lot that no line of the day tells.
+class NoLot(Refusal):
+
+    def __init__(self):
+        Refusal.__init__(self, -2)

@@ -18,7 +18,8 @@ class Lot:
 
 # How much is in a vessel is kept beside its mixture, and it's a whole number: lots are, and so is
 # all that is charged, poured, emptied or shipped. So the share of a pour and what a ship sends off
-# have small terms, and only the amounts within mixtures are to be watched.
+# have small terms, and only the amounts within mixtures are to be watched. A shipment is what was in
+# its vessel: the mixture, and how much it was.
 # A step that is stuck, for one of its doings couldn't be done, leads to how many lots were over then.
 class Store:
 
@@ -29,7 +30,7 @@ class Store:
         self.mixtures = [{} for size in plant.sizes["vessel"]]
         self.wholes = [0 for size in plant.sizes["vessel"]]
         self.done = 0
-        self.shipments = 0
+        self.shipments = []
         self.lines = []
         self.stuck = {}
 
@@ -46,7 +47,7 @@ class Store:
         other.mixtures = list(self.mixtures)
         other.wholes = list(self.wholes)
         other.done = self.done
-        other.shipments = self.shipments
+        other.shipments = list(self.shipments)
         return other
 
     def lots_over(self, now):
@@ -149,8 +150,9 @@ class Store:
     def ship(self, vessel):
         if self.wholes[vessel] == 0:
             return True
-        if self.shipments == MOST_SHIPMENTS:
+        if len(self.shipments) == MOST_SHIPMENTS:
             return False
+        number = len(self.shipments)
+        self.shipments.append((self.mixtures[vessel], self.wholes[vessel]))
         self.fill(vessel, {}, 0)
-        self.shipments += 1
-        return self.write_done(["ship", self.vessel_name(vessel), self.shipments - 1])
+        return self.write_done(["ship", self.vessel_name(vessel), number])

@@ -1,11 +1,12 @@
 """The calls: texts are handed in as bytes, and whole numbers are given back."""
 
-from batchworks.carrying import Run
+from batchworks.carrying import carried_out
 from batchworks.day import read_day
 from batchworks.judging import judgement
 from batchworks.plant import read_plant
-from batchworks.refusals import Refusal
-from batchworks.words import MOST_BYTES, MOST_RECORD_BYTES, answer_of, text_of
+from batchworks.refusals import NoLot, Refusal
+from batchworks.reports import recall_lines, report_lines
+from batchworks.words import MOST_BYTES, MOST_RECORD_BYTES, MOST_SIGNS, answer_of, text_of
 
 
 # All texts are looked at as bytes before any of them is read.
@@ -18,6 +19,12 @@ def plant_of(r, w):
 def day_of(r, w, d):
     day_text = text_of(d, MOST_BYTES)
     return read_day(plant_of(r, w), day_text)
+
+
+def lot_of(day, name):
+    if name not in day.lots:
+        raise NoLot()
+    return day.lots[name]
 
 
 def works(r, w):
@@ -42,9 +49,7 @@ def record(r, w, d):
         day = day_of(r, w, d)
     except Refusal as e:
         return [e.number]
-    run = Run(day, None)
-    run.carry_out()
-    return answer_of(run.lines)
+    return answer_of(carried_out(day).lines)
 
 
 def judge(r, w, d, x):
@@ -54,3 +59,21 @@ def judge(r, w, d, x):
     except Refusal as e:
         return [e.number]
     return judgement(day, text)
+
+
+def recall(r, w, d, l):
+    try:
+        name = text_of(l, MOST_SIGNS)
+        day = day_of(r, w, d)
+        lot = lot_of(day, name)
+    except Refusal as e:
+        return [e.number]
+    return answer_of(recall_lines(carried_out(day), lot))
+
+
+def report(r, w, d):
+    try:
+        day = day_of(r, w, d)
+    except Refusal as e:
+        return [e.number]
+    return answer_of(report_lines(carried_out(day)))

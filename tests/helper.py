@@ -1,6 +1,6 @@
 """What the tests share: texts as bytes, and calls that watch what they are handed."""
 
-from batchworks.works import check, judge, record, works
+from batchworks.works import check, judge, recall, record, report, works
 
 # A book that says nothing but what every test needs: four steps, a condition, two recipes.
 BOOK = """recipe brew
@@ -52,15 +52,30 @@ def text_in(answered):
     return bytes(answered[1:]).decode("ascii")
 
 
-def record_of(day, recipes=BOOK, plant=PLANT):
-    """The lines of the day's record, of a day that isn't refused."""
-    text = text_in(answer(record, recipes, plant, day))
+def lines_in(answered):
+    """The lines of the text that is answered."""
+    text = text_in(answered)
     assert text == "" or text.endswith("\n")
     return text.split("\n")[:-1]
 
 
+def record_of(day, recipes=BOOK, plant=PLANT):
+    """The lines of the day's record, of a day that isn't refused."""
+    return lines_in(answer(record, recipes, plant, day))
+
+
 def judge_of(judged, day, recipes=BOOK, plant=PLANT):
     return answer(judge, recipes, plant, day, judged)
+
+
+def recall_of(lot, day, recipes=BOOK, plant=PLANT):
+    """The lines of the recall, of a day that isn't refused and has this lot."""
+    return lines_in(answer(recall, recipes, plant, day, lot))
+
+
+def report_of(day, recipes=BOOK, plant=PLANT):
+    """The lines of the report, of a day that isn't refused."""
+    return lines_in(answer(report, recipes, plant, day))
 
 
 def wrong_works(line, kind):

@@ -2,12 +2,13 @@
 
 import unittest
 
-from batchworks.works import check, judge, record, works
-from helper import (BOOK, PLANT, answer, as_bytes, check_of, judge_of, record_of, told, works_of, wrong_day,
-                    wrong_works)
+from batchworks.works import check, judge, recall, record, report, works
+from helper import (BOOK, PLANT, answer, as_bytes, check_of, judge_of, record_of, report_of, told, works_of,
+                    wrong_day, wrong_works)
 
 DAY = "0 lot a malt 30 900\n2 batch c brew\n7 say c smooth no\n7 till\n"
 RECORD = told(record_of(DAY))
+REPORT = told(report_of(DAY))
 NO_BYTES = [[-1], [256], [-9223372036854775808], [9223372036854775807], [48, 1000], [10, -2]]
 
 
@@ -115,14 +116,17 @@ WRONG = [("", PLANT, DAY, [-1008]), ("recipe", PLANT, DAY, [-1008]), (BOOK + "x"
          (BOOK, PLANT, told([f"0 batch b{k} brew" for k in range(21)]), [-502105])]
 
 
-class RecordsAndJudges(unittest.TestCase):
+class CallsOfDays(unittest.TestCase):
 
     def test_what_check_refuses_is_refused(self):
         for recipes, plant, day, refusal in WRONG:
             self.assertEqual(answer(check, recipes, plant, day), refusal, refusal)
             self.assertEqual(answer(record, recipes, plant, day), refusal)
+            self.assertEqual(answer(report, recipes, plant, day), refusal)
             for judged in [RECORD, "", "bad"]:
                 self.assertEqual(answer(judge, recipes, plant, day, judged), refusal)
+            for lot in ["a", "other", "", "?"]:
+                self.assertEqual(answer(recall, recipes, plant, day, lot), refusal)
 
     def test_no_bytes_go_before_all(self):
         for other in NO_BYTES + [[32] * 6001, [10] * 16000]:
@@ -131,6 +135,9 @@ class RecordsAndJudges(unittest.TestCase):
                 self.assertEqual(answer(record, recipes, plant, day), [-1])
                 self.assertEqual(answer(judge, recipes, plant, day, RECORD), [-1])
                 self.assertEqual(answer(judge, recipes, plant, day, [300]), [-1])
+                self.assertEqual(answer(report, recipes, plant, day), [-1])
+                for lot in ["a", "other", "", "?", "abcdefghijklm", [300]]:
+                    self.assertEqual(answer(recall, recipes, plant, day, lot), [-1])
 
     def test_a_judged_record_that_is_no_text_goes_before_all(self):
         for other in [[-1], [256], [-65535], [65535], [48, 1000], [10] * 60001]:
@@ -138,8 +145,14 @@ class RecordsAndJudges(unittest.TestCase):
             for recipes, plant, day, refusal in WRONG:
                 self.assertEqual(answer(judge, recipes, plant, day, other), [-1])
 
+    def test_a_lot_s_name_that_is_no_text_goes_before_all(self):
+        for other in NO_BYTES + [[97] * 13, [97] * 100, [300] * 13]:
+            self.assertEqual(answer(recall, BOOK, PLANT, DAY, other), [-1])
+            for recipes, plant, day, refusal in WRONG:
+                self.assertEqual(answer(recall, recipes, plant, day, other), [-1])
+
     def test_the_recipes_go_before_the_works_and_the_works_before_the_day(self):
-        for function, more in [(record, []), (judge, ["bad"])]:
+        for function, more in [(record, []), (judge, ["bad"]), (report, []), (recall, ["a"]), (recall, ["bad"])]:
             self.assertEqual(answer(function, "recipe", "bad", "bad", *more), [-1008])
             self.assertEqual(answer(function, BOOK, "stuff a\nbad", "bad", *more), [-1201])
             self.assertEqual(answer(function, "recipe a either or end end", "bad", "bad", *more), [-1101])
@@ -151,6 +164,9 @@ class RecordsAndJudges(unittest.TestCase):
             texts = [text + fill * (6000 - len(text)) for text in [BOOK, PLANT, DAY]]
             self.assertEqual(answer(record, *texts), [len(RECORD)] + as_bytes(RECORD))
             self.assertEqual(answer(judge, *texts, RECORD), [1])
+            self.assertEqual(answer(report, *texts), [len(REPORT)] + as_bytes(REPORT))
+            self.assertEqual(answer(recall, *texts, "a"), [20] + as_bytes("vessel tun 10 of 10\n"))
+            self.assertEqual(answer(recall, *texts, "b"), [-2])
 
     def test_the_text_that_is_answered(self):
         self.assertEqual(answer(record, BOOK, PLANT, ""), [0])
@@ -168,11 +184,15 @@ class NothingKept(unittest.TestCase):
                  (check, "recipe z if c then else end end", "stuff q", "0 lot q q 1 1\n0 batch b z\n0 say b c no"),
                  (record, BOOK, PLANT, DAY), (judge, BOOK, PLANT, DAY, RECORD), (judge, BOOK, PLANT, DAY, other),
                  (record, BOOK, PLANT, "bad"), (judge, BOOK, PLANT, DAY, [-5]), (record, BOOK, PLANT, "3 till"),
-                 (judge, BOOK, PLANT, DAY, RECORD.replace("order c", "order d"))]
+                 (judge, BOOK, PLANT, DAY, RECORD.replace("order c", "order d")), (report, BOOK, PLANT, DAY),
+                 (recall, BOOK, PLANT, DAY, "a"), (recall, BOOK, PLANT, DAY, "b"), (recall, BOOK, PLANT, "", "a"),
+                 (report, BOOK, "", "3 till"), (recall, BOOK, PLANT, DAY.replace("7", "6"), "a")]
         first = [answer(*call) for call in calls]
         self.assertEqual(first, [[2, 2, 2, 1, 1], [4, 1, 1], [-1008], [-500101], [1, 0, 0, 0, 0], [-500103],
                                  [-2001], [-500204], [-1], [3, 1, 1], [len(RECORD)] + as_bytes(RECORD), [1], [0, 0],
-                                 [-500101], [-1], [7] + as_bytes("3 till\n"), [0, 2]])
+                                 [-500101], [-1], [7] + as_bytes("3 till\n"), [0, 2], [len(REPORT)] + as_bytes(REPORT),
+                                 [20] + as_bytes("vessel tun 10 of 10\n"), [-2], [-2], [7] + as_bytes("time 3\n"),
+                                 [0]])
         for turn in range(3):
             calls = calls[1:] + calls[:1]
             first = first[1:] + first[:1]

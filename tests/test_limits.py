@@ -92,14 +92,14 @@ class Shipments(unittest.TestCase):
         plant = read_plant("recipe a do x end", told(STUFFS + ["vessel v 9", "charge x v m0 1", "ship x v"]))
         for shipments, right in [(98, True), (99, True), (100, False)]:
             store = Store(plant)
-            store.shipments = shipments
+            store.shipments = [({}, 0)] * shipments
             store.add_lot("l", 0, 9, 9)
             behind = store.behind_step(0, 5)
             self.assertEqual(None if behind is None else behind.lines,
                              ["charge v l 1", f"ship v {shipments}"] if right else None)
         plant = read_plant("recipe a do x end", told(STUFFS + ["vessel v 9", "ship x v"]))
         store = Store(plant)
-        store.shipments = 100
+        store.shipments = [({}, 0)] * 100
         self.assertEqual(store.behind_step(0, 5).lines, [])
 
 

@@ -11,7 +11,7 @@ from fractions import Fraction
 from batchworks.plant import read_plant
 from batchworks.refusals import Refusal
 from batchworks.spots import spots_of
-from helper import check_of, judge_of, record_of, told
+from helper import check_of, judge_of, recall_of, record_of, report_of, told
 
 MOST_TERM = 10 ** 18
 
@@ -140,7 +140,7 @@ class Model:
                 self.doings.append(words)
         self.lines, self.now, self.batches, self.lots = [], 0, [], []
         self.vessels = {name: {} for name in self.there_is["vessel"]}
-        self.shipments, self.done = 0, 0
+        self.shipments, self.done, self.finished = [], 0, []
         self.orders = None if orders is None else orders[::-1]
         self.is_stopped = False
         try:
@@ -171,7 +171,7 @@ class Model:
             self.lots.append({"name": name, "stuff": words[3], "left": int(words[4]), "last": int(words[5])})
         elif word == "batch":
             self.batches.append({"name": name, "recipe": words[3], "marked": {0}, "begun": [], "answers": {},
-                                 "held": {unit: 0 for unit in self.there_is["unit"]}})
+                                 "held": {unit: 0 for unit in self.there_is["unit"]}, "deeds": 0})
         elif word == "say":
             under_way[0]["answers"][words[3]] = words[4]
         if word != "till":
@@ -192,6 +192,7 @@ class Model:
                 batch["marked"] |= behind
                 for unit, amount in self.pairs["give"].get(step, {}).items():
                     batch["held"][unit] -= amount
+                batch["deeds"] += 1
                 self.write(self.now, "end", batch["name"], step)
                 self.lines += lines
                 return True
@@ -204,6 +205,7 @@ class Model:
             if kind in ("yes", "no") and batch["answers"].get(name) == kind:
                 del batch["answers"][name]
                 batch["marked"] = (batch["marked"] - before) | behind
+                batch["deeds"] += 1
                 self.write(self.now, "ask", batch["name"], name, kind)
                 return True
         for number, (kind, name, before, behind) in can_be:
@@ -212,6 +214,7 @@ class Model:
                 return True
         if batch["marked"] == {1} and not batch["begun"]:
             self.batches.remove(batch)
+            self.finished.append(batch)
             self.write(self.now, "done", batch["name"])
             return True
         return False
@@ -266,7 +269,7 @@ class Model:
 
     def do_all(self, step):
         kept = ([dict(lot) for lot in self.lots], {name: dict(held) for name, held in self.vessels.items()},
-                self.shipments, self.done)
+                list(self.shipments), self.done)
         lines = []
         try:
             for word, *words in [doing[:1] + doing[2:] for doing in self.doings if doing[1] == step]:
@@ -274,7 +277,7 @@ class Model:
                     lines.append(" ".join(map(str, line)))
                     self.done += 1
                 self.need(self.done <= 200)
-                for held in self.vessels.values():
+                for held in [*self.vessels.values(), *self.shipments]:
                     for amount in held.values():
                         self.need_terms(amount)
         except CanNot:
@@ -338,11 +341,29 @@ class Model:
 
     def ship(self, vessel):
         if self.vessels[vessel]:
-            self.need(self.shipments < 100)
+            self.need(len(self.shipments) < 100)
             self.need_terms(self.whole(vessel))
+            self.shipments.append(self.vessels[vessel])
             self.vessels[vessel] = {}
-            self.shipments += 1
-            yield "ship", vessel, self.shipments - 1
+            yield "ship", vessel, len(self.shipments) - 1
+
+    def recall(self, lot):
+        places = [(f"vessel {name}", held) for name, held in self.vessels.items()]
+        lines = []
+        for place, held in places + [(f"shipment {k}", held) for k, held in enumerate(self.shipments)]:
+            amounts = [amount for key, amount in held.items() if key[0] == lot]
+            if amounts:
+                lines.append(f"{place} {sum(amounts)} of {sum(held.values())}")
+        return lines
+
+    def report(self):
+        lines = [f"time {self.now}"] + [f"lot {lot['name']} {lot['left']}" for lot in self.lots]
+        lines += [f"vessel {name} {self.whole(name)}" for name in self.vessels]
+        lines += [f"unit {unit} {free}" for unit, free in self.free().items()]
+        for batch in self.batches:
+            steps = [self.nets[batch["recipe"]][number][1] for number, _ in batch["begun"]]
+            lines.append(" ".join(["batch", batch["name"], "under way", *steps]))
+        return lines + [f"batch {batch['name']} done {batch['deeds']}" for batch in self.finished]
 
 
 def judged_by_model(recipes, plant, day, text):
@@ -487,6 +508,9 @@ class Maker:
 
 class Days(unittest.TestCase):
 
+    def count(self, counts, word):
+        counts[word] = counts.get(word, 0) + 1
+
     def test_many_days(self):
         written, judgements, how_many = {}, {1: 0, 0: 0}, 0
         for number in range(400):
@@ -501,7 +525,11 @@ class Days(unittest.TestCase):
                 continue
             how_many += 1
             lines = record_of(day, book, plant)
-            self.assertEqual(lines, Model(book, plant, day).lines, number)
+            model = Model(book, plant, day)
+            self.assertEqual(lines, model.lines, number)
+            self.assertEqual(report_of(day, book, plant), model.report(), number)
+            for lot in model.lots[:3]:
+                self.assertEqual(recall_of(lot["name"], day, book, plant), model.recall(lot["name"]), number)
             self.assertEqual(judge_of(told(lines), day, book, plant), [1])
             for _ in range(2):
                 other = maker.changed(lines)
@@ -509,12 +537,35 @@ class Days(unittest.TestCase):
                 self.assertEqual(judged, judged_by_model(book, plant, day, other), number)
                 judgements[judged[0]] += 1
             for line in lines:
-                word = line.split()[1] if line[0].isdigit() else line.split()[0]
-                written[word] = written.get(word, 0) + 1
+                self.count(written, line.split()[1] if line[0].isdigit() else line.split()[0])
         self.assertGreater(how_many, 200)
         self.assertGreater(min(judgements.values()), 40)
         self.assertEqual(len(written), 16)
         self.assertGreater(min(written.values()), 20, written)
+
+    # Small lots and small pours, so that lots are parted and mixed again and again.
+    def test_many_mixtures(self):
+        recalled = {}
+        for number in range(60):
+            maker = Maker(number)
+            maker.told = [f"s{k}" for k in range(5)]
+            book = told(["recipe r", *[f"do {step}" for step in maker.told * 2], "end"])
+            holders = [f"stuff {stuff}" for stuff in maker.stuffs] + [f"vessel {name} 500" for name in maker.vessels]
+            charges = [f"charge s{k} {maker.one(maker.vessels)} {maker.one(maker.stuffs)} 5" for k in range(5)]
+            plant = told(holders + charges + [maker.doing() for _ in range(12)])
+            lots = [f"0 lot l{k} {stuff} {maker.chance.randint(1, 9)} {k}"
+                    for k, stuff in enumerate(maker.stuffs * 8)]
+            day = told(lots + [f"{k} batch b{k} r" for k in range(6)] + ["9 till"])
+            model = Model(book, plant, day)
+            self.assertEqual(record_of(day, book, plant), model.lines, number)
+            self.assertEqual(report_of(day, book, plant), model.report(), number)
+            for lot in model.lots:
+                places = recall_of(lot["name"], day, book, plant)
+                self.assertEqual(places, model.recall(lot["name"]), number)
+                for place in places:
+                    self.count(recalled, place.split()[0] + ("/" if "/" in place else ""))
+        self.assertEqual(len(recalled), 4)
+        self.assertGreater(min(recalled.values()), 20, recalled)
 
 
 if __name__ == "__main__":
