@@ -3,7 +3,7 @@
 from batchworks.recipes import read_book
 from batchworks.refusals import WrongWorks
 from batchworks.spots import is_recipe_right
-from batchworks.words import is_name, is_number, lines_of
+from batchworks.words import is_name, is_number, line_of, lines_of
 
 # For each form what its names stand for, and the most that its numbers may be.
 NAMES = {
@@ -39,7 +39,7 @@ MOST_DOINGS = 60
 
 # Names lead to numbers; sizes are lists by these numbers (a stuff has none, so its are 0). The
 # pairs of claim, take and give are numbers too. A doing is its word, the numbers of its names
-# and its own numbers.
+# and its own numbers. Lines are kept as they are shown, all forms of doings together.
 class Plant:
 
     def __init__(self, book):
@@ -49,6 +49,7 @@ class Plant:
         self.sizes = {"stuff": [], "vessel": [], "unit": []}
         self.pairs = {"claim": {}, "take": {}, "give": {}}
         self.doings = []
+        self.lines = {"stuff": [], "vessel": [], "unit": [], "claim": [], "take": [], "give": [], "doing": []}
 
     # What a claim, take or give tells, unit by unit, of this recipe or step.
     def amounts(self, word, number):
@@ -134,6 +135,7 @@ def take_line(plant, words):
     word = words[0]
     names = names_in(words)
     numbers = [int(number) for number in numbers_in(words)]
+    plant.lines[word if word in plant.lines else "doing"].append(line_of(words))
     if word in plant.sizes:
         plant.told[word][names[0]] = len(plant.told[word])
         plant.sizes[word].append(sum(numbers))

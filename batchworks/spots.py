@@ -77,3 +77,10 @@ def is_recipe_right(plant, recipe):
             return False
     found = spots_of(plant, recipe)
     return len(found) <= MOST_SPOTS and all([is_spot_right(spot, claimed) for spot in found])
+
+
+# How many spots can be come to, and for each unit the most that's held in one.
+def spot_numbers(plant, recipe):
+    found = spots_of(plant, recipe)
+    most_held = [max([spot[2][unit] for spot in found]) for unit in range(len(plant.sizes["unit"]))]
+    return [len(found)] + most_held

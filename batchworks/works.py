@@ -6,6 +6,8 @@ from batchworks.judging import judgement
 from batchworks.plant import read_plant
 from batchworks.refusals import NoLot, Refusal
 from batchworks.reports import recall_lines, report_lines
+from batchworks.showing import recipes_lines, works_lines
+from batchworks.spots import spot_numbers
 from batchworks.words import MOST_BYTES, MOST_RECORD_BYTES, MOST_SIGNS, answer_of, text_of
 
 
@@ -77,3 +79,22 @@ def report(r, w, d):
     except Refusal as e:
         return [e.number]
     return answer_of(report_lines(carried_out(day)))
+
+
+def claims(r, w):
+    try:
+        plant = plant_of(r, w)
+    except Refusal as e:
+        return [e.number]
+    numbers = [len(plant.book.recipes)]
+    for recipe in range(len(plant.book.recipes)):
+        numbers.extend(spot_numbers(plant, recipe))
+    return numbers
+
+
+def shown(r, w):
+    try:
+        plant = plant_of(r, w)
+    except Refusal as e:
+        return [e.number]
+    return answer_of(recipes_lines(plant)) + answer_of(works_lines(plant))

@@ -1,6 +1,6 @@
 """What the tests share: texts as bytes, and calls that watch what they are handed."""
 
-from batchworks.works import check, judge, recall, record, report, works
+from batchworks.works import check, claims, judge, recall, record, report, shown, works
 
 # A book that says nothing but what every test needs: four steps, a condition, two recipes.
 BOOK = """recipe brew
@@ -76,6 +76,17 @@ def recall_of(lot, day, recipes=BOOK, plant=PLANT):
 def report_of(day, recipes=BOOK, plant=PLANT):
     """The lines of the report, of a day that isn't refused."""
     return lines_in(answer(report, recipes, plant, day))
+
+
+def claims_of(recipes=BOOK, plant=PLANT):
+    return answer(claims, recipes, plant)
+
+
+def shown_of(recipes=BOOK, plant=PLANT):
+    """The lines of the two texts, of recipes and a works that aren't refused."""
+    answered = answer(shown, recipes, plant)
+    length = answered[0] + 1
+    return lines_in(answered[:length]), lines_in(answered[length:])
 
 
 def wrong_works(line, kind):

@@ -2,7 +2,7 @@
 
 import unittest
 
-from batchworks.works import check, judge, recall, record, report, works
+from batchworks.works import check, claims, judge, recall, record, report, shown, works
 from helper import (BOOK, PLANT, answer, as_bytes, check_of, judge_of, record_of, report_of, told, works_of,
                     wrong_day, wrong_works)
 
@@ -116,6 +116,34 @@ WRONG = [("", PLANT, DAY, [-1008]), ("recipe", PLANT, DAY, [-1008]), (BOOK + "x"
          (BOOK, PLANT, told([f"0 batch b{k} brew" for k in range(21)]), [-502105])]
 
 
+class CallsOfWorks(unittest.TestCase):
+
+    def test_what_is_refused(self):
+        for recipes, plant, refusal in [wrong[:2] + wrong[3:] for wrong in WRONG if wrong[3][0] > -500000]:
+            for function in [works, claims, shown]:
+                self.assertEqual(answer(function, recipes, plant), refusal)
+
+    def test_no_bytes_go_before_all(self):
+        for other in NO_BYTES + [[32] * 6001, [10] * 16000]:
+            for recipes, plant in [(other, "bad"), ("bad", other), (other, PLANT), (BOOK, other), (other, other)]:
+                for function in [works, claims, shown]:
+                    self.assertEqual(answer(function, recipes, plant), [-1])
+
+    def test_the_order_of_refusals(self):
+        for function in [works, claims, shown]:
+            self.assertEqual(answer(function, "recipe", "bad"), [-1008])
+            self.assertEqual(answer(function, BOOK, "stuff a\nbad"), [-1201])
+            self.assertEqual(answer(function, "recipe a either or end end", "bad"), [-1101])
+            self.assertEqual(answer(function, "recipe a either or end end", "unit u 1\nclaim a u 2"), [-1006])
+            self.assertEqual(answer(function, "recipe a end", "unit u 1\nclaim a u 2"), [-1007])
+
+    def test_texts_of_6000_bytes(self):
+        for fill in [" ", "\n"]:
+            texts = [text + fill * (6000 - len(text)) for text in [BOOK, PLANT]]
+            for function in [works, claims, shown]:
+                self.assertEqual(answer(function, *texts), answer(function, BOOK, PLANT))
+
+
 class CallsOfDays(unittest.TestCase):
 
     def test_what_check_refuses_is_refused(self):
@@ -186,13 +214,16 @@ class NothingKept(unittest.TestCase):
                  (record, BOOK, PLANT, "bad"), (judge, BOOK, PLANT, DAY, [-5]), (record, BOOK, PLANT, "3 till"),
                  (judge, BOOK, PLANT, DAY, RECORD.replace("order c", "order d")), (report, BOOK, PLANT, DAY),
                  (recall, BOOK, PLANT, DAY, "a"), (recall, BOOK, PLANT, DAY, "b"), (recall, BOOK, PLANT, "", "a"),
-                 (report, BOOK, "", "3 till"), (recall, BOOK, PLANT, DAY.replace("7", "6"), "a")]
+                 (report, BOOK, "", "3 till"), (recall, BOOK, PLANT, DAY.replace("7", "6"), "a"),
+                 (claims, BOOK, PLANT), (shown, "recipe a end", "stuff m"), (claims, "recipe a end", "unit u 3"),
+                 (shown, "recipe b end", ""), (claims, "", ""), (shown, BOOK, "bad")]
         first = [answer(*call) for call in calls]
         self.assertEqual(first, [[2, 2, 2, 1, 1], [4, 1, 1], [-1008], [-500101], [1, 0, 0, 0, 0], [-500103],
                                  [-2001], [-500204], [-1], [3, 1, 1], [len(RECORD)] + as_bytes(RECORD), [1], [0, 0],
                                  [-500101], [-1], [7] + as_bytes("3 till\n"), [0, 2], [len(REPORT)] + as_bytes(REPORT),
                                  [20] + as_bytes("vessel tun 10 of 10\n"), [-2], [-2], [7] + as_bytes("time 3\n"),
-                                 [0]])
+                                 [0], [2, 9, 2, 3, 0], [13] + as_bytes("recipe a end\n") + [8] + as_bytes("stuff m\n"),
+                                 [1, 2, 0], [13] + as_bytes("recipe b end\n") + [0], [-1008], [-1101]])
         for turn in range(3):
             calls = calls[1:] + calls[:1]
             first = first[1:] + first[:1]

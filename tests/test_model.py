@@ -11,7 +11,7 @@ from fractions import Fraction
 from batchworks.plant import read_plant
 from batchworks.refusals import Refusal
 from batchworks.spots import spots_of
-from helper import check_of, judge_of, recall_of, record_of, report_of, told
+from helper import check_of, claims_of, judge_of, recall_of, record_of, report_of, shown_of, told
 
 MOST_TERM = 10 ** 18
 
@@ -347,6 +347,34 @@ class Model:
             self.vessels[vessel] = {}
             yield "ship", vessel, len(self.shipments) - 1
 
+    def claims(self):
+        numbers = [len(self.nets)]
+        for moves in self.nets.values():
+            spots = self.spots(moves)
+            numbers += [len(spots)] + [max(dict(held)[unit] for _, _, held in spots) for unit in self.there_is["unit"]]
+        return numbers
+
+    def spots(self, moves):
+        waiting = [(frozenset([0]), frozenset(), tuple((unit, 0) for unit in self.there_is["unit"]))]
+        spots = set(waiting)
+        while waiting:
+            marked, begun, held = waiting.pop()
+            found = []
+            for number, (kind, name, before, behind) in enumerate(moves):
+                if before <= marked and kind == "step":
+                    takes = self.pairs["take"].get(name, {})
+                    found.append((marked - before, begun | {number},
+                                  tuple((unit, have + takes.get(unit, 0)) for unit, have in held)))
+                elif before <= marked:
+                    found.append(((marked - before) | behind, begun, held))
+                if number in begun:
+                    gives = self.pairs["give"].get(name, {})
+                    found.append((marked | behind, begun - {number},
+                                  tuple((unit, have - gives.get(unit, 0)) for unit, have in held)))
+            waiting += set(found) - spots
+            spots |= set(found)
+        return spots
+
     def recall(self, lot):
         places = [(f"vessel {name}", held) for name, held in self.vessels.items()]
         lines = []
@@ -511,6 +539,14 @@ class Days(unittest.TestCase):
     def count(self, counts, word):
         counts[word] = counts.get(word, 0) + 1
 
+    def assertShown(self, book, plant):
+        recipes, lines = shown_of(book, plant)
+        self.assertEqual(Book(told(recipes)).recipes, Book(book).recipes)
+        self.assertEqual(Book(told(recipes)).times, Book(book).times)
+        self.assertEqual(sorted(lines), sorted(plant.split("\n")[:-1]))
+        if len(told(recipes)) <= 6000:
+            self.assertEqual(shown_of(told(recipes), told(lines)), (recipes, lines))
+
     def test_many_days(self):
         written, judgements, how_many = {}, {1: 0, 0: 0}, 0
         for number in range(400):
@@ -528,6 +564,8 @@ class Days(unittest.TestCase):
             model = Model(book, plant, day)
             self.assertEqual(lines, model.lines, number)
             self.assertEqual(report_of(day, book, plant), model.report(), number)
+            self.assertEqual(claims_of(book, plant), model.claims(), number)
+            self.assertShown(book, plant)
             for lot in model.lots[:3]:
                 self.assertEqual(recall_of(lot["name"], day, book, plant), model.recall(lot["name"]), number)
             self.assertEqual(judge_of(told(lines), day, book, plant), [1])
